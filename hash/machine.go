@@ -101,7 +101,7 @@ func turned(x uint32, k, l, n int) uint32 {
 	return bits.RotateLeft32(x, -k) ^ bits.RotateLeft32(x, -l) ^ bits.RotateLeft32(x, -n)
 }
 
-// spread own the word by two numbers alone: by the third one it is moved.
+// spread turns the word by two numbers alone: by the third one it is moved.
 func spread(x uint32, k, l, n int) uint32 {
 	return bits.RotateLeft32(x, -k) ^ bits.RotateLeft32(x, -l) ^ x>>n
 }
