@@ -174,7 +174,7 @@ func TestExample(t *testing.T) {
 	isOf(t, 1, 3, 0, 3, api.OK)
 }
 
-// TestTables has numbers that were reckoned by hand.
+// TestTables has numbers that were reckoned apart from the program, and are written out.
 func TestTables(t *testing.T) {
 	for _, c := range []struct {
 		mean int
