@@ -10,6 +10,7 @@ const (
 	epochSign = "E"
 	tagLong   = 16 // bytes
 	epochLong = 4
+	epochMost = 1<<31 - 1 // the last epoch, though four bytes could tell greater ones
 )
 
 // epochs is what records make: an epoch, its tags, and those of the epoch ahead, the oldest first.
@@ -37,9 +38,9 @@ func (p *epochs) add(tag string) {
 	}
 }
 
-// turn goes on to an epoch: this one, the next, or one far off, to which no tag lasts. It does not go back.
+// turn goes on to an epoch: this one, the next, or one far off, to which no tag lasts. It does not go back, nor past the last one: there Rotate could neither go on nor say that it is the last.
 func (p *epochs) turn(to int) bool {
-	if to < p.epoch {
+	if to < p.epoch || to > epochMost {
 		return false
 	}
 	switch to - p.epoch {

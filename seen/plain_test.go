@@ -69,7 +69,7 @@ func (p plainTags) behind(records ...string) (plainTags, bool) {
 		switch {
 		case len(r) == 17 && r[0] == 'T':
 			p = p.with(r[1:])
-		case len(r) == 5 && r[0] == 'E' && int(binary.BigEndian.Uint32([]byte(r[1:]))) >= p.epoch:
+		case len(r) == 5 && r[0] == 'E' && p.mayBe(int(binary.BigEndian.Uint32([]byte(r[1:])))):
 			p = p.in(int(binary.BigEndian.Uint32([]byte(r[1:]))))
 		default:
 			return plainTags{}, false
@@ -77,6 +77,9 @@ func (p plainTags) behind(records ...string) (plainTags, bool) {
 	}
 	return p, true
 }
+
+// mayBe tells whether a record E of that number may be: epochs do not go back, and end at 2^31 - 1.
+func (p plainTags) mayBe(epoch int) bool { return epoch >= p.epoch && epoch <= 1<<31-1 }
 
 func recordE(epoch int) string {
 	return "E" + string(binary.BigEndian.AppendUint32(nil, uint32(epoch)))

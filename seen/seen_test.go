@@ -342,6 +342,9 @@ func wrongOpenings() []opening {
 		"E below, the lowest byte more": {e(0x0100), e(0x00ff)},
 		"E below, the highest byte":     {e(1 << 24), e(1<<24 - 1)},
 		"E below the last":              {e(1<<31 - 1), e(1<<31 - 2)},
+		"E past the last":               {e(1 << 31)},
+		"E past the last, behind it":    {e(1<<31 - 1), ta, e(1 << 31)},
+		"E past the last, by many":      {ta, e(1<<32 - 1)},
 		"E below, behind the same":      {e(3), e(3), e(2)},
 		"E below, of the epoch ahead":   {e(3), ta, e(4), e(3), recordT(tag(2))},
 	} {
@@ -374,6 +377,16 @@ func (o opening) isRot(x *pair) {
 	quiet(x.t, x.d, func() { refuses(x.t, x.d, 4, api.ErrRot) })
 }
 
+func (o opening) isRotOn(t *testing.T, sizes ...int) {
+	t.Helper()
+	for _, sectors := range sizes {
+		x := newPair(t, sectors)
+		x.lays(o.records...)
+		o.isRot(x)
+		holds(t, x.d, 1, o.records...)
+	}
+}
+
 func (o opening) isRight(x *pair) {
 	x.t.Helper()
 	quiet(x.t, x.d, func() {
@@ -394,7 +407,7 @@ func (o opening) isRight(x *pair) {
 // TestRotAtEachPlace: among records that may be, one that may not be is found wherever it stands.
 func TestRotAtEachPlace(t *testing.T) {
 	right := []string{recordT(tag(1)), recordE(1), recordT(tag(2)), recordT(tag(3)), recordE(1), recordE(2), recordT(tag(4)), recordE(9), recordT(tag(5))}
-	for _, wrong := range []string{"x", "E", "T", recordE(3)[:4], recordT(tag(6))[:16], recordT(tag(6)) + "x", recordE(3) + "\x00", long(60)} {
+	for _, wrong := range []string{"x", "E", "T", recordE(3)[:4], recordT(tag(6))[:16], recordT(tag(6)) + "x", recordE(3) + "\x00", recordE(1 << 31), recordE(1<<32 - 1), long(60)} {
 		for at := range len(right) + 1 {
 			x := newPair(t, 40)
 			x.lays(slices.Insert(slices.Clone(right), at, wrong)...)
@@ -550,17 +563,72 @@ func TestLastEpochs(t *testing.T) {
 	tells(t, x.s, 1<<31-1, tag(0))
 }
 
-// TestGreaterEpochs: four bytes tell them, though no Rotate makes them; nor does one go on from there.
+// TestEndOfEpochs: what Open and Rotate answer at records of E next to 2^31 - 1, the last epoch, and of the greatest number that four bytes tell.
+func TestEndOfEpochs(t *testing.T) {
+	for _, x := range []struct {
+		record       string
+		open, rotate api.Errno
+		epoch        int // behind Rotate
+	}{
+		{"E\x7f\xff\xff\xfd", api.OK, api.OK, 2147483646},
+		{"E\x7f\xff\xff\xfe", api.OK, api.OK, 2147483647},
+		{"E\x7f\xff\xff\xff", api.OK, api.ErrRange, 2147483647},
+		{"E\x80\x00\x00\x00", api.ErrRot, 0, 0},
+		{"E\x80\x00\x00\x01", api.ErrRot, 0, 0},
+		{"E\xff\xff\xff\xfe", api.ErrRot, 0, 0},
+		{"E\xff\xff\xff\xff", api.ErrRot, 0, 0},
+	} {
+		for _, sectors := range []int{8, 12, 13} {
+			for _, most := range []int{1, 4, 4096} {
+				d := newDisk(t, sectors)
+				lay(t, d, x.record)
+				if x.open != api.OK {
+					quiet(t, d, func() { refuses(t, d, most, x.open) })
+					holds(t, d, 1, x.record)
+					continue
+				}
+				s, e := seen.Open(d, most)
+				is(t, e, api.OK)
+				is(t, s.Rotate(), x.rotate)
+				tells(t, s, x.epoch)
+			}
+		}
+	}
+}
+
+// TestEndOfEpochsOnTheSmallestDisk: one record finds room; what would be ErrSpace is not told where there is no next epoch.
+func TestEndOfEpochsOnTheSmallestDisk(t *testing.T) {
+	for epoch, want := range map[int]api.Errno{1<<31 - 2: api.ErrSpace, 1<<31 - 1: api.ErrRange} {
+		x := newPair(t, 4)
+		x.lays(recordE(epoch))
+		is(t, x.open(1), api.OK)
+		is(t, x.rotate(), want)
+		tells(t, x.s, epoch)
+	}
+	for _, epoch := range []int{1 << 31, 1<<32 - 1} {
+		x := newPair(t, 4)
+		x.lays(recordE(epoch))
+		is(t, x.open(1), api.ErrRot)
+	}
+}
+
+// TestGreaterEpochs: a number above the last epoch is none, whatever stands ahead of it or behind it.
 func TestGreaterEpochs(t *testing.T) {
-	for _, epoch := range []int{1 << 31, 1<<31 + 1, 1<<32 - 2, 1<<32 - 1} {
-		x := newPair(t, 12)
-		x.lays(recordE(epoch-1), recordT(tag(0)), recordE(epoch))
-		is(t, x.open(4), api.OK)
-		tells(t, x.s, epoch, tag(0))
-		quiet(t, x.d, func() { is(t, x.s.Rotate(), api.ErrRange) })
-		is(t, x.open(4), api.OK)
-		is(t, x.add(tag(1)), api.OK)
-		tells(t, x.s, epoch, tag(0), tag(1))
+	for _, epoch := range []int{1 << 31, 1<<31 + 1, 3 << 30, 1<<32 - 1<<24, 1<<32 - 2, 1<<32 - 1} {
+		for _, records := range [][]string{
+			{recordE(epoch)},
+			{recordE(epoch), recordE(epoch)},
+			{recordE(epoch), recordT(tag(0))},
+			{recordE(epoch), recordE(1<<31 - 1)},
+			{recordE(epoch), recordE(0)},
+			{recordT(tag(0)), recordE(epoch)},
+			{recordE(1), recordT(tag(0)), recordE(epoch)},
+			{recordE(1<<31 - 1), recordE(epoch)},
+			{recordE(1<<31 - 2), recordT(tag(0)), recordE(1<<31 - 1), recordT(tag(1)), recordE(epoch)},
+			{recordE(epoch - 1), recordT(tag(0)), recordE(epoch)},
+		} {
+			opening{records: records}.isRotOn(t, 12, 13)
+		}
 	}
 }
 
@@ -1499,7 +1567,7 @@ func TestDrawnRecords(t *testing.T) {
 	for seed := range int64(2000) {
 		by := rand.New(rand.NewSource(seed))
 		x := newPair(t, 8+by.Intn(60))
-		epoch := by.Intn(3)
+		epoch := []int{0, 1, 2, 1<<31 - 12, 1<<31 - 4}[by.Intn(5)]
 		var records []string
 		for range by.Intn(x.d.Size()/2 - 1) {
 			if by.Intn(4) == 0 {
