@@ -25,13 +25,13 @@ func head(generation int) string {
 	return padded(headFront(generation) + headMark(generation))
 }
 
-// generationOf is that of the head which b begins with; 0, if that is not right.
+// generationOf is that of the head which b begins with; 0, if that is not right. A number past the last generation is none: there Compact could neither go on nor say that it is the last.
 func generationOf(b string) int {
 	n := 0
 	for i := range generationLong {
 		n = n<<8 | int(b[len(title)+i])
 	}
-	if !strings.HasPrefix(b, head(n)) {
+	if n > generationMost || !strings.HasPrefix(b, head(n)) {
 		return 0
 	}
 	return n

@@ -903,17 +903,107 @@ func TestLastGenerations(t *testing.T) {
 	}
 }
 
-// TestGreaterGenerations: four bytes tell them, though no compaction makes them; nor does one go on from there.
+// TestEndOfGenerations: what Open, Generation and Compact answer at heads next to 2^31 - 1, the last generation, and at those of the greatest numbers that four bytes tell: in either half, alone and beside a head of a smaller generation.
+func TestEndOfGenerations(t *testing.T) {
+	for _, x := range []struct {
+		four         string // a head's bytes of its generation
+		generation   int    // 0: it is none
+		compact      api.Errno
+		next, beside int // behind Compact; of the other half's head
+	}{
+		{"\x7f\xff\xff\xfd", 2147483645, api.OK, 2147483646, 2147483644},
+		{"\x7f\xff\xff\xfe", 2147483646, api.OK, 2147483647, 2147483645},
+		{"\x7f\xff\xff\xfe", 2147483646, api.OK, 2147483647, 1},
+		{"\x7f\xff\xff\xff", 2147483647, api.ErrLong, 0, 2147483646},
+		{"\x7f\xff\xff\xff", 2147483647, api.ErrLong, 0, 1},
+		{"\x80\x00\x00\x00", 0, 0, 0, 2147483647},
+		{"\x80\x00\x00\x00", 0, 0, 0, 2147483646},
+		{"\x80\x00\x00\x00", 0, 0, 0, 1},
+		{"\x80\x00\x00\x01", 0, 0, 0, 2147483647},
+		{"\xc0\x00\x00\x00", 0, 0, 0, 77},
+		{"\xff\xff\xff\xfe", 0, 0, 0, 2147483647},
+		{"\xff\xff\xff\xff", 0, 0, 0, 2147483647},
+		{"\xff\xff\xff\xff", 0, 0, 0, 2147483646},
+		{"\xff\xff\xff\xff", 0, 0, 0, 2},
+	} {
+		mark := digest("LOG\x00" + x.four)
+		record, _ := laidRecord(mark, "a")
+		half := append(cut("LOG\x00"+x.four+mark), record...)
+		for _, sectors := range []int{12, 13} {
+			for _, from := range []int{0, 6} {
+				alone, both := newPair(t, sectors), newPair(t, sectors)
+				alone.lays(from, half...)
+				both.lays(from, half...)
+				both.lays(6-from, laid(x.beside, "b")...)
+				if x.generation == 0 {
+					alone.begunAnew()
+					both.endsAt(x.beside, "b", behindLast(x.beside))
+					continue
+				}
+				alone.endsAt(x.generation, "a", x.compact)
+				both.endsAt(x.generation, "a", x.compact)
+				if x.compact == api.OK {
+					tells(t, alone.l, x.next, 4, "new")
+					tells(t, both.l, x.next, 4, "new")
+				}
+			}
+		}
+	}
+}
+
+// endsAt fails unless a log of a disk of 12 or 13 sectors is of that generation and text, and answers this to a compaction.
+func (x *pair) endsAt(generation int, text string, compact api.Errno) {
+	x.t.Helper()
+	quiet(x.t, x.d, func(d *disk.Disk) {
+		l, e := log.Open(d)
+		is(x.t, e, api.OK)
+		tells(x.t, l, generation, 4, text)
+	})
+	is(x.t, x.open(), api.OK)
+	if compact == api.OK {
+		is(x.t, x.compact("new"), api.OK)
+		tells(x.t, x.l, generation+1, 4, "new")
+		return
+	}
+	quiet(x.t, x.d, func(*disk.Disk) {
+		is(x.t, x.l.Compact("new"), compact)
+		is(x.t, x.l.Compact(), compact)
+	})
+	tells(x.t, x.l, generation, 4, text)
+	is(x.t, x.append("more"), api.OK)
+	tells(x.t, x.l, generation, 3, text, "more")
+}
+
+// begunAnew fails unless no head of a disk of 12 or 13 sectors is right: its log begins, and goes on over the half that lies there.
+func (x *pair) begunAnew() {
+	x.t.Helper()
+	is(x.t, x.open(), api.OK)
+	tells(x.t, x.l, 1, 5)
+	if now := read(x.t, x.d); !slices.Equal(now[:6], append(laid(1), zeroSectors(5)...)) {
+		x.t.Fatal("the half 0 is not begun")
+	}
+	is(x.t, x.append("c"), api.OK)
+	is(x.t, x.sync(), api.OK)
+	x.crash()
+	is(x.t, x.open(), api.OK)
+	tells(x.t, x.l, 1, 4, "c")
+	is(x.t, x.compact("d"), api.OK)
+	tells(x.t, x.l, 2, 4, "d")
+	x.crash()
+	is(x.t, x.open(), api.OK)
+	tells(x.t, x.l, 2, 4, "d")
+}
+
+// TestGreaterGenerations: heads of them in both halves are as none at all.
 func TestGreaterGenerations(t *testing.T) {
-	for _, generation := range []int{1 << 31, 1<<31 + 1, 1<<32 - 2, 1<<32 - 1} {
-		x := newPair(t, 12)
-		x.lays(0, laid(1<<31-1, "a")...)
-		x.lays(6, laid(generation, "b")...)
-		is(t, x.open(), api.OK)
-		tells(t, x.l, generation, 4, "b")
-		is(t, x.append("c"), api.OK)
-		quiet(t, x.d, func(*disk.Disk) { is(t, x.l.Compact("d"), api.ErrLong) })
-		tells(t, x.l, generation, 3, "b", "c")
+	greater := []int{1 << 31, 1<<31 + 1, 3 << 30, 1<<32 - 1<<24, 1<<32 - 2, 1<<32 - 1}
+	for _, first := range greater {
+		for _, other := range greater {
+			x := newPair(t, 12)
+			x.lays(0, laid(first, "a", "b")...)
+			x.lays(6, laid(other, "c")...)
+			x.begunAnew()
+		}
 	}
 }
 

@@ -218,10 +218,10 @@ func (p *plainLog) compact(texts ...string) api.Errno {
 	return p.begin(1-p.half, p.generation+1, texts)
 }
 
-// rightHead is the generation of a head; 0: it is not right.
+// rightHead is the generation of a head; 0: it is not right. Generations end at 2^31 - 1.
 func rightHead(sector string) int {
 	generation := int(binary.BigEndian.Uint32([]byte(sector[4:8])))
-	if sector[:4] != "LOG\x00" || generation < 1 || sector[8:24] != digest(sector[:8]) || sector[24:] != all(0)[24:] {
+	if sector[:4] != "LOG\x00" || generation < 1 || generation > 1<<31-1 || sector[8:24] != digest(sector[:8]) || sector[24:] != all(0)[24:] {
 		return 0
 	}
 	return generation
